@@ -8,6 +8,10 @@ NOT_AS_TOLD = -22
 FEWEST_LINES = 2
 MOST_LINES = 5
 GREATEST_COUNT = 10000
+LEAST_K = 2
+GREATEST_K = 20
+LEAST_W = 1
+GREATEST_W = 100
 
 
 def audit(rows, cols, hidden, cells):
@@ -19,6 +23,19 @@ def audit(rows, cols, hidden, cells):
         answer.append(least_of(rows, cols, hidden, cells, cell))
         answer.append(most_of(rows, cols, hidden, cells, cell))
     return answer
+
+
+def safe(rows, cols, hidden, k, w, cells):
+    """0 if the table is safe, else 1 more than the first cell that makes it unsafe; or -22."""
+    if not is_table(rows, cols, cells) or not is_hiding(rows, cols, hidden):
+        return [NOT_AS_TOLD]
+    if not is_k(k) or not is_w(w):
+        return [NOT_AS_TOLD]
+    for cell in range(rows * cols):
+        if is_small(k, cells[cell]) and not is_kept(rows, cols, hidden, w, cells, cell):
+            # Counted from 1, so that cell 0 isn't taken for the 0 of a safe table.
+            return [cell + 1]
+    return [0]
 
 
 def is_table(rows, cols, cells):
@@ -38,6 +55,28 @@ def is_side(number):
 def is_hiding(rows, cols, hidden):
     """Whether each bit of hidden is of a cell."""
     return hidden >> (rows * cols) == 0
+
+
+def is_k(number):
+    """Whether counts below this number may be asked to be kept."""
+    return LEAST_K <= number and number <= GREATEST_K
+
+
+def is_w(number):
+    """Whether the most of a cell may be asked to be so far above its least."""
+    return LEAST_W <= number and number <= GREATEST_W
+
+
+def is_small(k, count):
+    """Whether somebody might be known by the count; by 0 nobody is."""
+    return 0 < count and count < k
+
+
+def is_kept(rows, cols, hidden, w, cells, cell):
+    """Whether the cell is hidden, and its most at least w above its least."""
+    if not is_hidden(hidden, cell):
+        return False
+    return most_of(rows, cols, hidden, cells, cell) - least_of(rows, cols, hidden, cells, cell) >= w
 
 
 def is_hidden(hidden, cell):

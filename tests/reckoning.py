@@ -1,6 +1,49 @@
-"""Two other ways to the bounds of a table, for the tests to hold the program against."""
+"""What the tests share: tables to try, and other ways to the answers to hold the program against."""
 
 import itertools
+
+SIZES = [(rows, cols) for rows in range(2, 6) for cols in range(2, 6)]
+
+
+class Unchangeable(list):
+    """A list that refuses every change, so that not even a passing one goes unseen."""
+
+    def refuse(self, *args, **kwargs):
+        raise RuntimeError("the list that was handed in is changed")
+
+    __setitem__ = __delitem__ = __iadd__ = __imul__ = refuse
+    append = extend = insert = pop = remove = clear = sort = reverse = refuse
+
+
+def bits(cells):
+    return sum(1 << e for e in cells)
+
+
+def some_table(source, rows, cols, greatest):
+    return [source.randrange(greatest + 1) for e in range(rows * cols)]
+
+
+def tables_not_as_told():
+    """Rows, cols, hidden and cells that every call refuses."""
+    for wrong in [0, 1, 6, 7, 8, 20, 40, 65536, 4294967295]:
+        for right in [2, 3, 4, 5]:
+            for length in [0, 4, 25, 40, min(40, wrong * right)]:
+                yield wrong, right, 0, [1] * length
+                yield right, wrong, 0, [1] * length
+        yield wrong, wrong, 0, [1] * min(40, wrong * wrong)
+    for rows, cols in SIZES:
+        size = rows * cols
+        for length in range(41):
+            if length != size:
+                yield rows, cols, 0, [1] * length
+        for e in range(size):
+            for count in [10001, 65535]:
+                yield rows, cols, 0, [1] * e + [count] + [1] * (size - 1 - e)
+                yield rows, cols, 1 << e, [1] * e + [count] + [1] * (size - 1 - e)
+        for hidden in [1 << size, (1 << size) + 1, (2 << size) - 1, 1 << 31, 4294967295]:
+            yield rows, cols, hidden, [1] * size
+    yield 0, 6, 4294967295, [65535] * 40
+    yield 4294967295, 4294967295, 4294967295, []
 
 
 def is_hidden(hidden, cell):
@@ -32,16 +75,19 @@ def rows_that_agree(total, hidden, row, caps):
 
 def all_that_agree(rows, cols, hidden, cells):
     """All counts that agree with the told part of a table, one list each."""
-    sums = told(rows, cols, hidden, cells)
+    # What is told is taken off the sums first, so that only what may be hidden is tried.
+    told_cells = [0 if is_hidden(hidden, e) else cells[e] for e in range(rows * cols)]
+    rest = [count - known for count, known in zip(cells, told_cells)]
+    sums = told(rows, cols, hidden, rest)
     begun = [([], sums[2])]
     for r in range(rows):
-        row = cells[r * cols:(r + 1) * cols]
+        row = rest[r * cols:(r + 1) * cols]
         longer = []
         for counts, left in begun:
             for chosen in rows_that_agree(sums[1][r], hidden >> (r * cols) & ((1 << cols) - 1), row, left):
                 longer.append((counts + chosen, [a - b for a, b in zip(left, chosen)]))
         begun = longer
-    return [counts for counts, left in begun if not any(left)]
+    return [[a + b for a, b in zip(counts, told_cells)] for counts, left in begun if not any(left)]
 
 
 def audit_by_counting(rows, cols, hidden, cells):
@@ -86,3 +132,16 @@ def audit_by_cuts(rows, cols, hidden, cells):
         else:
             answer.extend([cells[e], cells[e]])
     return answer
+
+
+def first_not_kept(hidden, k, w, cells, answer):
+    """The answer of safe, by an answer of audit that is already known."""
+    for e, count in enumerate(cells):
+        if count in range(1, k):
+            if not is_hidden(hidden, e) or answer[2 + 2 * e] < answer[1 + 2 * e] + w:
+                return [e + 1]
+    return [0]
+
+
+def safe_by_cuts(rows, cols, hidden, k, w, cells):
+    return first_not_kept(hidden, k, w, cells, audit_by_cuts(rows, cols, hidden, cells))

@@ -5,6 +5,8 @@ first, then the columns. A cell is where a row and a column cross.
 """
 
 NOT_AS_TOLD = -22
+TOO_MANY_CELLS = -28
+NEVER_SAFE = -33
 FEWEST_LINES = 2
 MOST_LINES = 5
 GREATEST_COUNT = 10000
@@ -12,6 +14,7 @@ LEAST_K = 2
 GREATEST_K = 20
 LEAST_W = 1
 GREATEST_W = 100
+MOST_CELLS_FOR_BEST = 12
 
 
 def audit(rows, cols, hidden, cells):
@@ -31,11 +34,20 @@ def safe(rows, cols, hidden, k, w, cells):
         return [NOT_AS_TOLD]
     if not is_k(k) or not is_w(w):
         return [NOT_AS_TOLD]
-    for cell in range(rows * cols):
-        if is_small(k, cells[cell]) and not is_kept(rows, cols, hidden, w, cells, cell):
-            # Counted from 1, so that cell 0 isn't taken for the 0 of a safe table.
-            return [cell + 1]
-    return [0]
+    return [first_not_kept(rows, cols, hidden, k, w, cells)]
+
+
+def best(rows, cols, k, w, cells):
+    """How many cells are to be hidden so that the table is safe, and which; or -22, -28 or -33 alone."""
+    if not is_table(rows, cols, cells) or not is_k(k) or not is_w(w):
+        return [NOT_AS_TOLD]
+    if rows * cols > MOST_CELLS_FOR_BEST:
+        return [TOO_MANY_CELLS]
+    if first_not_kept(rows, cols, everything(rows, cols), k, w, cells) != 0:
+        # With more hidden no bounds are narrower: where all hidden isn't safe, nothing is.
+        return [NEVER_SAFE]
+    hidden = best_hiding(rows, cols, k, w, cells)
+    return [len(hidden_counts(hidden, cells)), hidden]
 
 
 def is_table(rows, cols, cells):
@@ -70,6 +82,57 @@ def is_w(number):
 def is_small(k, count):
     """Whether somebody might be known by the count; by 0 nobody is."""
     return 0 < count and count < k
+
+
+def best_hiding(rows, cols, k, w, cells):
+    """The bits of the best of all safe hidings, in a table that is safe with all hidden."""
+    small = small_cells(k, cells)
+    found = everything(rows, cols)
+    for hidden in range(everything(rows, cols)):
+        # The bounds take by far the longest, so they are asked last.
+        if (hidden & small) == small and is_better(hidden, found, cells):
+            if first_not_kept(rows, cols, hidden, k, w, cells) == 0:
+                found = hidden
+    return found
+
+
+def everything(rows, cols):
+    """The bits of all cells."""
+    return (1 << (rows * cols)) - 1
+
+
+def small_cells(k, cells):
+    """The bits of all cells with a small count."""
+    small = 0
+    for cell in range(len(cells)):
+        if is_small(k, cells[cell]):
+            small = small + (1 << cell)
+    return small
+
+
+def is_better(hidden, other, cells):
+    """Whether hidden is to be told rather than other, if both are safe."""
+    return rank_of(hidden, cells) < rank_of(other, cells)
+
+
+def rank_of(hidden, cells):
+    """How many cells are hidden, the sum of their counts, and their bits: in this order less is better."""
+    counts = hidden_counts(hidden, cells)
+    return (len(counts), sum(counts), hidden)
+
+
+def hidden_counts(hidden, cells):
+    """The counts of the hidden cells."""
+    return [cells[cell] for cell in range(len(cells)) if is_hidden(hidden, cell)]
+
+
+def first_not_kept(rows, cols, hidden, k, w, cells):
+    """0 if each small count is kept, else 1 more than the first cell whose small count isn't."""
+    for cell in range(rows * cols):
+        if is_small(k, cells[cell]) and not is_kept(rows, cols, hidden, w, cells, cell):
+            # Counted from 1, so that cell 0 isn't taken for the 0 of a safe table.
+            return cell + 1
+    return 0
 
 
 def is_kept(rows, cols, hidden, w, cells, cell):

@@ -3,6 +3,8 @@
 import itertools
 
 SIZES = [(rows, cols) for rows in range(2, 6) for cols in range(2, 6)]
+UP_TO_12 = [(rows, cols) for rows, cols in SIZES if rows * cols <= 12]
+BIG = 50
 
 
 class Unchangeable(list):
@@ -19,31 +21,48 @@ def bits(cells):
     return sum(1 << e for e in cells)
 
 
+def all_of(rows, cols):
+    return (1 << rows * cols) - 1
+
+
+def big_but(size, counts):
+    """Cells with a big count, but where counts says otherwise."""
+    return [counts.get(e, BIG) for e in range(size)]
+
+
 def some_table(source, rows, cols, greatest):
     return [source.randrange(greatest + 1) for e in range(rows * cols)]
 
 
 def tables_not_as_told():
-    """Rows, cols, hidden and cells that every call refuses."""
+    """Rows, cols and cells that every call refuses."""
     for wrong in [0, 1, 6, 7, 8, 20, 40, 65536, 4294967295]:
         for right in [2, 3, 4, 5]:
             for length in [0, 4, 25, 40, min(40, wrong * right)]:
-                yield wrong, right, 0, [1] * length
-                yield right, wrong, 0, [1] * length
-        yield wrong, wrong, 0, [1] * min(40, wrong * wrong)
+                yield wrong, right, [1] * length
+                yield right, wrong, [1] * length
+        yield wrong, wrong, [1] * min(40, wrong * wrong)
     for rows, cols in SIZES:
         size = rows * cols
         for length in range(41):
             if length != size:
-                yield rows, cols, 0, [1] * length
+                yield rows, cols, [1] * length
         for e in range(size):
             for count in [10001, 65535]:
-                yield rows, cols, 0, [1] * e + [count] + [1] * (size - 1 - e)
-                yield rows, cols, 1 << e, [1] * e + [count] + [1] * (size - 1 - e)
+                yield rows, cols, [1] * e + [count] + [1] * (size - 1 - e)
+    yield 0, 6, [65535] * 40
+    yield 4294967295, 4294967295, []
+
+
+def hidings_not_as_told():
+    """Rows, cols, hidden and cells that every call with a hidden refuses."""
+    for rows, cols, cells in tables_not_as_told():
+        for hidden in [0, 1, 8, 4294967295]:
+            yield rows, cols, hidden, cells
+    for rows, cols in SIZES:
+        size = rows * cols
         for hidden in [1 << size, (1 << size) + 1, (2 << size) - 1, 1 << 31, 4294967295]:
             yield rows, cols, hidden, [1] * size
-    yield 0, 6, 4294967295, [65535] * 40
-    yield 4294967295, 4294967295, 4294967295, []
 
 
 def is_hidden(hidden, cell):
@@ -145,3 +164,32 @@ def first_not_kept(hidden, k, w, cells, answer):
 
 def safe_by_cuts(rows, cols, hidden, k, w, cells):
     return first_not_kept(hidden, k, w, cells, audit_by_cuts(rows, cols, hidden, cells))
+
+
+def hides_all_small(hidden, k, cells):
+    return all(is_hidden(hidden, e) for e, count in enumerate(cells) if count in range(1, k))
+
+
+def rank(hidden, cells):
+    """What best goes by, the least first: how many cells, the sum of their counts, the number."""
+    counts = [count for e, count in enumerate(cells) if is_hidden(hidden, e)]
+    return len(counts), sum(counts), hidden
+
+
+def best_of(safe_hidings, cells):
+    """The answer of best, by all hidings that are safe."""
+    ranks = sorted(rank(hidden, cells) for hidden in safe_hidings)
+    return [ranks[0][0], ranks[0][2]] if ranks else [-33]
+
+
+def audits_by_counting(rows, cols, cells):
+    """By a plain count, the answers of audit for all hidings that may be safe by any k, hiding by hiding."""
+    # A 1 is small by every k: where one is told, there is nothing to count.
+    return {hidden: audit_by_counting(rows, cols, hidden, cells)
+            for hidden in range(1 << rows * cols) if hides_all_small(hidden, 2, cells)}
+
+
+def best_by_trying(answers, k, w, cells):
+    """The answer of best, by a plain search through answers of audit for all hidings."""
+    return best_of([hidden for hidden, answer in answers.items()
+                    if first_not_kept(hidden, k, w, cells, answer) == [0]], cells)

@@ -8,7 +8,7 @@ import unittest
 
 from hiddencounts.tables import audit
 from tests.reckoning import SIZES, Unchangeable, all_that_agree, audit_by_counting, audit_by_cuts, bits
-from tests.reckoning import is_hidden, some_table, tables_not_as_told, told
+from tests.reckoning import hidings_not_as_told, is_hidden, some_table, told
 
 
 def known(cells):
@@ -181,8 +181,8 @@ class Refused(unittest.TestCase):
     def refused(self, rows, cols, hidden, cells):
         self.assertEqual(audit(rows, cols, hidden, cells), [-22], (rows, cols, hidden, cells))
 
-    def test_tables_not_as_told(self):
-        for rows, cols, hidden, cells in tables_not_as_told():
+    def test_tables_and_hidings_not_as_told(self):
+        for rows, cols, hidden, cells in hidings_not_as_told():
             self.refused(rows, cols, hidden, cells)
 
     def test_as_many_cells_but_wrong_sides(self):

@@ -8,20 +8,8 @@ import random
 import unittest
 
 from hiddencounts.tables import safe
-from tests.reckoning import SIZES, Unchangeable, all_that_agree, bits, first_not_kept, is_hidden, some_table
-from tests.reckoning import audit_by_counting, safe_by_cuts, tables_not_as_told
-
-BIG = 50
-
-
-def all_of(rows, cols):
-    return (1 << rows * cols) - 1
-
-
-def big_but(size, counts):
-    """Cells with a big count, but where counts says otherwise."""
-    return [counts.get(e, BIG) for e in range(size)]
-
+from tests.reckoning import BIG, SIZES, Unchangeable, all_of, all_that_agree, audit_by_counting, big_but, bits
+from tests.reckoning import first_not_kept, hidings_not_as_told, is_hidden, safe_by_cuts, some_table
 
 class Counted(unittest.TestCase):
     """The answers against a plain count over all counts that agree."""
@@ -261,8 +249,8 @@ class Refused(unittest.TestCase):
     def refused(self, rows, cols, hidden, k, w, cells):
         self.assertEqual(safe(rows, cols, hidden, k, w, cells), [-22], (rows, cols, hidden, k, w, cells))
 
-    def test_tables_not_as_told(self):
-        for rows, cols, hidden, cells in tables_not_as_told():
+    def test_tables_and_hidings_not_as_told(self):
+        for rows, cols, hidden, cells in hidings_not_as_told():
             self.refused(rows, cols, hidden, 2, 1, cells)
             self.refused(rows, cols, hidden, 20, 100, cells)
 
@@ -287,7 +275,7 @@ class Refused(unittest.TestCase):
 
     def test_several_at_once(self):
         for k, w in [(0, 1), (2, 0), (21, 101), (4294967295, 4294967295)]:
-            for rows, cols, hidden, cells in tables_not_as_told():
+            for rows, cols, hidden, cells in hidings_not_as_told():
                 self.refused(rows, cols, hidden, k, w, cells)
 
     def test_least_and_greatest_k_and_w_are_not_refused(self):
